@@ -27,12 +27,14 @@ var (
 // A junkRow is written where nothing of the program may look or write.
 var junkRow = impl.Row{Vid: -77, Mac: -77, Port: -77, At: -77, Fixed: true}
 
-// tableCall is one of the functions that change a table, with what the document says of it.
-type tableCall struct {
+// change is a call of a function that returns its changed argument, with what the document says of it.
+type change[T any] struct {
 	name string
-	call func(x impl.Table) impl.Table
-	want func(x impl.Table) impl.Table
+	call func(x T) T
+	want func(x T) T
 }
+
+type tableCall = change[impl.Table]
 
 func learnCall(vid, mac, port, now int) tableCall {
 	return tableCall{
@@ -51,18 +53,27 @@ func fixCall(vid, mac, port int) tableCall {
 }
 
 func ageCall(now, age int) tableCall {
-	return tableCall{
-		fmt.Sprintf("AgeOut(%d, %d)", now, age),
-		func(x impl.Table) impl.Table { return impl.AgeOut(x, now, age) },
-		func(x impl.Table) impl.Table { return wantAgeOut(x, now, age) },
-	}
+	return change2("AgeOut", impl.AgeOut, wantAgeOut, now, age)
 }
 
 func flushCall(port int) tableCall {
-	return tableCall{
-		fmt.Sprintf("Flush(%d)", port),
-		func(x impl.Table) impl.Table { return impl.Flush(x, port) },
-		func(x impl.Table) impl.Table { return wantFlush(x, port) },
+	return change1("Flush", impl.Flush, wantFlush, port)
+}
+
+// change1 and change2 are the changes by functions with that many further arguments.
+func change1[T, A any](name string, call, want func(T, A) T, a A) change[T] {
+	return change[T]{
+		fmt.Sprintf("%s(%v)", name, a),
+		func(x T) T { return call(x, a) },
+		func(x T) T { return want(x, a) },
+	}
+}
+
+func change2[T, A, B any](name string, call, want func(T, A, B) T, a A, b B) change[T] {
+	return change[T]{
+		fmt.Sprintf("%s(%v, %v)", name, a, b),
+		func(x T) T { return call(x, a, b) },
+		func(x T) T { return want(x, a, b) },
 	}
 }
 
